@@ -1,38 +1,27 @@
 """The calls on one object, one behind another, and what they answer."""
 
-from rulesfound.shapes import all_apart, even_handed, names_of, views_in, views_of
+from rulesfound.boards import Board, how_many_rules, most_told
+from rulesfound.gathering import best_rule, bits_of, fewest_hopeless, good_rules, numbers_of, sure_by
+from rulesfound.shapes import all_apart, even_handed
 
 NO_SUCH = -2
 NOT_MARKED = -6
+SOME_RULE_IS_GOOD = -6
 NOT_BEGUN = -11
 MARKED_ALREADY = -17
 OUT_OF_RANGE = -22
+TOO_MANY_RULES = -28
+NO_GOOD_RULE = -33
 
-# By a call's number: how many whole numbers follow it. Calls that are not built yet stand here too,
-# for ahead of a begin they are answered as well.
+MOST_RULES = 6000
+
+# By a call's number: how many whole numbers follow it.
 ARGUMENTS = (4, 1, 0, 1, 0, 1, 1, 1, 1, 0, 0, 0, 2, 0, 0, 0, 0, 0, 0, 0, 1, 0, 0, 1, 0)
 
 BEGIN = 0
 OF_A_NAME = (3, 6, 7, 8)
-OF_A_VIEW = (5, 12)
-
-
-class NotBuilt(Exception):
-    pass
-
-
-class Board:
-    def __init__(self, places, eyes, robots, moves):
-        self.eyes = eyes
-        self.moves = moves
-        self.names = names_of(places, robots)
-        self.views = views_of(self.names, eyes)
-        self.marked = {}
-        self.rule = [0] * len(self.views)
-
-
-def most_told(view):
-    return 1 if even_handed(view) else 2
+OF_A_VIEW = (5, 12, 20)
+OF_ALL_RULES = (16, 17, 18, 19, 20, 21, 22, 23)
 
 
 def counted(numbers):
@@ -66,8 +55,7 @@ def call_view(board, arguments):
 
 
 def call_who(board, arguments):
-    had = views_in(board.names[arguments[0]], board.eyes)
-    return counted([board.views.index(view) for view in had])
+    return counted(board.had[arguments[0]])
 
 
 def call_mark(board, arguments):
@@ -99,10 +87,7 @@ def call_marks(board, arguments):
 
 
 def call_rules(board, arguments):
-    rules = 1
-    for view in board.views:
-        rules = rules * (most_told(view) + 1)
-    return [rules]
+    return [how_many_rules(board)]
 
 
 def call_set(board, arguments):
@@ -113,6 +98,73 @@ def call_set(board, arguments):
     before = board.rule[number]
     board.rule[number] = done
     return [before]
+
+
+def call_rule(board, arguments):
+    return counted(board.rule)
+
+
+def call_good(board, arguments):
+    gathered = sure_by(board, board.rule, board.moves) & bits_of(board.marked)
+    return [len(numbers_of(gathered)), len(board.marked)]
+
+
+def call_goods(board, arguments):
+    return counted(numbers_of(sure_by(board, board.rule, board.moves)))
+
+
+def good_one(board, number):
+    # None if no more than so many rules are good.
+    good = good_rules(board, board.moves)
+    return list(good[number]) if number < len(good) else None
+
+
+def call_found(board, arguments):
+    rule = good_one(board, 0)
+    return [NO_GOOD_RULE] if rule is None else counted(rule)
+
+
+def call_take(board, arguments):
+    rule = good_one(board, 0)
+    if rule is None:
+        return [NO_GOOD_RULE]
+    board.rule = rule
+    return [0]
+
+
+def call_many(board, arguments):
+    return [len(good_rules(board, board.moves)), how_many_rules(board)]
+
+
+def call_best(board, arguments):
+    best = best_rule(board)
+    return [best[0]] + list(best[1])
+
+
+def call_needed(board, arguments):
+    good = good_rules(board, board.moves)
+    if len(good) == 0:
+        return [NO_GOOD_RULE]
+    return [bits_of([rule[arguments[0]] for rule in good])]
+
+
+def call_why(board, arguments):
+    if len(good_rules(board, board.moves)) > 0:
+        return [SOME_RULE_IS_GOOD]
+    return counted(fewest_hopeless(board))
+
+
+def call_allat(board, arguments):
+    return [len(good_rules(board, moves)) for moves in range(3)]
+
+
+def call_nth(board, arguments):
+    rule = good_one(board, arguments[0])
+    return [NO_GOOD_RULE] if rule is None else counted(rule)
+
+
+def call_told(board, arguments):
+    return [board.places, board.eyes, board.robots, board.moves, len(board.marked)]
 
 
 CALLS = {
@@ -128,6 +180,18 @@ CALLS = {
     10: call_marks,
     11: call_rules,
     12: call_set,
+    13: call_rule,
+    14: call_good,
+    15: call_goods,
+    16: call_found,
+    17: call_take,
+    18: call_many,
+    19: call_best,
+    20: call_needed,
+    21: call_why,
+    22: call_allat,
+    23: call_nth,
+    24: call_told,
 }
 
 
@@ -157,11 +221,11 @@ def names_nothing(board, call, arguments):
 def answer_on(board, call, arguments):
     if board is None:
         return [NOT_BEGUN]
-    if call not in CALLS:
-        raise NotBuilt(f"call {call} is not built yet")
-    # Asked ahead of the call itself, for this refusal comes first, whatever else is due.
+    # Asked ahead of the call itself, for these two refusals come first, whatever else is due.
     if names_nothing(board, call, arguments):
         return [NO_SUCH]
+    if call in OF_ALL_RULES and how_many_rules(board) > MOST_RULES:
+        return [TOO_MANY_RULES]
     return CALLS[call](board, arguments)
 
 

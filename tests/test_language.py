@@ -109,6 +109,18 @@ class Code(unittest.TestCase):
                 self.assertTrue((PACKAGE / (node.module.split(".")[1] + ".py")).exists(), place)
                 self.assertEqual([part for part in node.names if part.name == "*" or part.asname], [], place)
 
+    def test_no_two_files_draw_from_one_another(self):
+        draws = {path.stem: set() for path, text in sources()}
+        for path, text in sources():
+            for node in ast.walk(ast.parse(text)):
+                if isinstance(node, ast.ImportFrom):
+                    draws[path.stem].add(node.module.split(".")[1])
+        while draws:
+            ready = [stem for stem, others in draws.items() if not others & set(draws)]
+            self.assertNotEqual(ready, [], draws)
+            for stem in ready:
+                del draws[stem]
+
     def test_names(self):
         own = set(dir(builtins))
         for place, node in nodes():

@@ -5,7 +5,8 @@ from calling import GREATEST, ask, last
 
 class Mark(unittest.TestCase):
     def test_answers_how_many_are_marked(self):
-        self.assertEqual(ask("begin 5 0 3 0", "mark 3", "mark 0", "mark 4", "marks"), [[9], [1], [2], [3], [3, 0, 3, 4]])
+        self.assertEqual(ask("begin 5 0 3 0", "mark 3", "mark 0", "mark 4", "marks"),
+                         [[9], [1], [2], [3], [3, 0, 3, 4]])
 
     def test_marked_already(self):
         self.assertEqual(ask("begin 5 0 3 0", "mark 3", "mark 3", "marks", "mark 2"),
@@ -56,7 +57,8 @@ class MarkApart(unittest.TestCase):
 
     def test_by_robots_not_by_what_is_seen(self):
         for eyes in range(3):
-            self.assertEqual(last(f"begin 6 {eyes} 3 0", "markapart", "marks"), last("begin 6 0 3 0", "markapart", "marks"))
+            self.assertEqual(last(f"begin 6 {eyes} 3 0", "markapart", "marks"),
+                             last("begin 6 0 3 0", "markapart", "marks"))
 
     def test_no_others_are_marked(self):
         self.assertEqual(ask("begin 5 0 3 0", "mark 0", "mark 4", "markapart", "marks", "mark 3", "mark 0", "marks"),

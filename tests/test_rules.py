@@ -34,7 +34,8 @@ class Set(unittest.TestCase):
                          [[3], [0], [-22], [-22], [1]])
 
     def test_above_one_of_an_even_handed_view(self):
-        self.assertEqual(ask("begin 4 0 2 0", "view 1", "set 1 1", "set 1 2", "set 1 3", f"set 1 {GREATEST}", "set 1 0"),
+        calls = ("set 1 1", "set 1 2", "set 1 3", f"set 1 {GREATEST}", "set 1 0")
+        self.assertEqual(ask("begin 4 0 2 0", "view 1", *calls),
                          [[3], [1, 1, 0, 1, 0], [0], [-22], [-22], [-22], [1]])
 
     def test_the_last_and_behind_it(self):
